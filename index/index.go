@@ -1,11 +1,7 @@
 // Package index is layer 1: see shared/doc/01-index.md.
 package index
 
-import (
-	"slices"
-
-	"octant/api"
-)
+import "octant/api"
 
 // Check checks a head.
 func Check(h api.IndexHead) api.Errno {
@@ -42,11 +38,11 @@ func Compound(h api.IndexHead, n int) (api.IndexPair, api.Errno) {
 	if e := checkLines(h, n, api.IndexLines); e != api.OK {
 		return api.IndexPair{}, e
 	}
-	moves := slices.Collect((head{h}).compounds(n))
-	if len(moves) == 0 {
+	move, found := (head{h}).shortest(n)
+	if !found {
 		return api.IndexPair{}, api.ErrNone
 	}
-	return best(compoundMove.shorter, moves[0], moves[1:]...).IndexPair, api.OK
+	return move.IndexPair, api.OK
 }
 
 // Cut returns the places of all lines on a circle, and what is engraved.

@@ -66,6 +66,17 @@ func (h head) plans(n int) iter.Seq[api.IndexPlan] {
 	}
 }
 
+// shortest returns the compound plan for n lines than which none is better, of several the first one, and whether there is one.
+func (h head) shortest(n int) (move compoundMove, found bool) {
+	for m := range h.compounds(n) {
+		if !found {
+			move, found = m, true
+		}
+		move = best(compoundMove.shorter, move, m)
+	}
+	return move, found
+}
+
 // compounds produces all compound plans for n lines, by A, then B, then X.
 func (h head) compounds(n int) iter.Seq[compoundMove] {
 	return func(yield func(compoundMove) bool) {
@@ -84,7 +95,11 @@ func (h head) compounds(n int) iter.Seq[compoundMove] {
 // compoundsOn produces all compound plans for n lines on two circles, by X.
 func (h head) compoundsOn(a, b, n int) iter.Seq[compoundMove] {
 	return func(yield func(compoundMove) bool) {
-		sum := h.round(a) * h.Circles[b] / n
+		whole := h.round(a) * h.Circles[b]
+		if whole%n != 0 { // no whole numbers of holes are one of n parts of it
+			return
+		}
+		sum := whole / n
 		for i := range 2*api.IndexMost + 1 {
 			x := i - api.IndexMost
 			y := (sum - x*h.Circles[b]) / h.Circles[a]
