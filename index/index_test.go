@@ -364,6 +364,8 @@ func TestDifferential(t *testing.T) {
 		{shopHead(), []int{20, 30, 40, 60, 24}, 9, api.IndexDiff{Lines: 8, Plan: api.IndexPlan{Turns: 5}, Train: api.IndexTrain{A: 2, B: 0, C: 3, D: 4}}, api.OK},
 		{shopHead(), []int{10, 200}, 1, api.IndexDiff{Lines: 2, Plan: api.IndexPlan{Turns: 20}, Train: api.IndexTrain{A: 1, B: 0, C: -1, D: -1}, On: true}, api.OK},
 		{shopHead(), []int{10, 20, 30, 40, 50, 60, 70, 80, 90, 100}, 2, api.IndexDiff{Lines: 1, Plan: api.IndexPlan{Turns: 40}, Train: api.IndexTrain{A: 7, B: 0, C: 9, D: 1}}, api.OK},
+		// as many lines as there can be, and 20 more
+		{api.IndexHead{Teeth: 400, Circles: []int{101}}, []int{200, 101, 20, 10}, 2000, api.IndexDiff{Lines: 2020, Plan: api.IndexPlan{Holes: 20}, Train: api.IndexTrain{A: 0, B: 1, C: 2, D: 3}, On: true}, api.OK},
 		{shopHead(), shopStock(), 2000, api.IndexDiff{}, api.ErrNone},
 		{shopHead(), nil, 0, api.IndexDiff{}, api.ErrIndexLines},
 		{shopHead(), nil, -1, api.IndexDiff{}, api.ErrIndexLines},
